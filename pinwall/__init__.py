@@ -1,0 +1,1 @@
+"""Pinwall: notes on a wall, moved over from one half to the other."""
